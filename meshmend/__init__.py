@@ -1,0 +1,1 @@
+"""Meshmend: torn nets, and how few twines mend them."""
