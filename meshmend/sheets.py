@@ -22,6 +22,21 @@ def sheet_error(value):
     return None
 
 
+def is_bar(sheet, value):
+    """Tell whether value, of any kind, is a bar of the sheet."""
+    return is_integer_within(value, 0, sheet[0] * sheet[1] - 1)
+
+
+def is_knot(sheet, value):
+    """Tell whether value, of any kind, is a knot of the sheet."""
+    if not isinstance(value, tuple) or len(value) != 2:
+        return False
+    row, col = value
+    if not is_integer_within(row, 0, sheet[0]) or not is_integer_within(col, 0, sheet[1]):
+        return False
+    return (row + col) % 2 == 0
+
+
 def knots(sheet):
     """Return the ascending tuple of the knots."""
     deep, wide = sheet
@@ -35,6 +50,12 @@ def ends_of(sheet, bar):
     if (row + col) % 2 == 0:
         return ((row, col), (row + 1, col + 1))
     return ((row, col + 1), (row + 1, col))
+
+
+def far_end(sheet, bar, knot):
+    """Return the knot that the bar joins with this one of its ends."""
+    upper, lower = ends_of(sheet, bar)
+    return lower if knot == upper else upper
 
 
 def bars_of(sheet, knot):

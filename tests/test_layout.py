@@ -15,6 +15,24 @@ INTERFACE = {
         "bar_between": ["sheet", "one", "other"],
         "are_opposite": ["sheet", "one", "other"],
     },
+    "tears.py": {
+        "tear_error": ["sheet", "value"],
+        "lacks": ["sheet", "tear", "knot"],
+        "odd": ["sheet", "tear"],
+        "lost": ["sheet", "tear"],
+        "holes": ["sheet", "tear"],
+    },
+    "plans.py": {
+        "bars_along": ["sheet", "twine"],
+        "fewest": ["sheet", "tear"],
+        "plan": ["sheet", "tear"],
+        "plan_error": ["sheet", "tear", "value"],
+    },
+    "trims.py": {
+        "wrong": ["sheet", "tear", "ends"],
+        "least_trim": ["sheet", "tear", "ends"],
+        "easiest": ["sheet", "tear"],
+    },
 }
 
 

@@ -8,8 +8,7 @@ import copy
 import unittest
 
 from meshmend.sheets import are_opposite, bar_between, bars_of, ends_of, knots, sheet_error
-
-SHEETS = [(deep, wide) for deep in range(1, 9) for wide in range(1, 9)]
+from tests.nets import SHEETS, ExactTest, all_bars, ends_as_told, is_knot_as_told
 
 NO_INTEGERS = (
     True, False, None, "", "2", "deep", (), (2,), [], [2], {}, {2: 2}, (2, 2), ((2,),),
@@ -22,22 +21,6 @@ NO_PAIRS = (
     [], [2], [2, 2], [2, 2, 2], [(2, 2)], {}, {2: 2}, {2: 2, 3: 3},
     ((2, 2),), ([2, 2],), [[2, 2], [2, 2]], (((2, 2),),), ((2, 2), (2, 2), (2, 2)),
 )
-
-
-def is_knot(sheet, row, col):
-    return 0 <= row <= sheet[0] and 0 <= col <= sheet[1] and (row + col) % 2 == 0
-
-
-def ends_as_told(sheet, bar):
-    """The upper and the lower knot, in the words of the document."""
-    r, c = bar // sheet[1], bar % sheet[1]
-    if (r + c) % 2 == 0:
-        return ((r, c), (r + 1, c + 1))
-    return ((r, c + 1), (r + 1, c))
-
-
-def all_bars(sheet):
-    return range(sheet[0] * sheet[1])
 
 
 def sides_at(sheet, bar, knot):
@@ -54,11 +37,6 @@ def opposite_as_told(sheet, one, other):
             if here[0] != there[0] and here[1] != there[1]:
                 return True
     return False
-
-
-class ExactTest(unittest.TestCase):
-    def assert_exactly(self, found, expected):
-        self.assertEqual(repr(found), repr(expected))
 
 
 class SheetErrorTest(ExactTest):
@@ -122,7 +100,7 @@ class KnotsTest(ExactTest):
             expected = []
             for row in range(sheet[0] + 1):
                 for col in range(sheet[1] + 1):
-                    if is_knot(sheet, row, col):
+                    if is_knot_as_told(sheet, row, col):
                         expected.append((row, col))
             with self.subTest(sheet=sheet):
                 self.assert_exactly(knots(sheet), tuple(expected))
