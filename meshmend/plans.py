@@ -16,32 +16,35 @@ def fewest(sheet, tear):
 
 def plan(sheet, tear):
     """Return a plan with as few twines as there can be."""
-    pairings = {knot: _pairings(sheet, tear, knot) for knot in knots(sheet)}
+    pairings = {knot: pairings_at(sheet, tear, knot) for knot in knots(sheet)}
     chosen = {knot: pairings[knot][0] for knot in pairings}
-    twines = _twines(sheet, tear, chosen)
+    twines = twines_by(sheet, tear, chosen)
     # Where a ring meets another twine, the other pairing makes one of both, so
     # in the end each ring is a hole of its own. Of the twines that are no rings
     # just one ends at each odd knot. That makes as many as fewest tells.
     for knot in pairings:
         if _ring_meets_other(twines, knot):
             chosen[knot] = pairings[knot][1]
-            twines = _twines(sheet, tear, chosen)
+            twines = twines_by(sheet, tear, chosen)
     return tuple(twines)
 
 
-def _pairings(sheet, tear, knot):
-    """Return the one or two ways to pair the bars that lack at the knot by good passes."""
+def pairings_at(sheet, tear, knot):
+    """Return the one or two ways to pair the bars that lack at the knot by good passes.
+
+    Of four bars: the upper two and the lower two, then the left two and the right two.
+    """
     at = lacking_at(sheet, tear, knot)
     pairs = [(one, other) for one in at for other in at if one < other]
     if len(at) < 3:
         return (pairs,)
     good = [(one, other) for one, other in pairs if not are_opposite(sheet, one, other)]
-    # Four bars have four good pairs: the first and the last one go together,
-    # and the two between. Three bars have two good pairs, which share a bar.
+    # Four bars have four good pairs, the upper one first and the lower one
+    # last. Three bars have two good pairs, which share a bar.
     return (good[:1] + good[3:], good[1:3])
 
 
-def _twines(sheet, tear, chosen):
+def twines_by(sheet, tear, chosen):
     """Return the twines that come of the pairs that are chosen for each knot."""
     starts = [(knot, bar) for bar in tear for knot in ends_of(sheet, bar)]
     loose = [(knot, bar) for knot, bar in starts if _partner(chosen[knot], bar) is None]
@@ -51,13 +54,13 @@ def _twines(sheet, tear, chosen):
     # is left then are rings, which may begin anywhere.
     for knot, bar in loose + starts:
         if bar not in gone:
-            twine = _walk(sheet, chosen, knot, bar)
+            twine = walk(sheet, chosen, knot, bar)
             gone.update({along: True for along in bars_along(sheet, twine)})
             twines.append(twine)
     return twines
 
 
-def _walk(sheet, chosen, start, first):
+def walk(sheet, chosen, start, first):
     """Return the twine that begins at the knot start by the bar first."""
     knot, bar = far_end(sheet, first, start), first
     twine = [start, knot]
@@ -111,17 +114,17 @@ def _twine_error(sheet, tear, item, gone):
         return "bar"
     if len(set(bars)) < len(bars) or any([bar in gone for bar in bars]):
         return "twice"
-    if any([_is_bad_pass(sheet, tear, knot, one, other) for knot, one, other in _passes(item, bars)]):
+    if any([_is_bad_pass(sheet, tear, knot, one, other) for knot, one, other in passes_of(item, bars)]):
         return "straight"
     return None
 
 
-def _passes(twine, bars):
+def passes_of(twine, bars):
     """Return a triple of the knot and its two bars for each pass of the twine."""
-    passes = list(zip(twine[1:-1], bars, bars[1:]))
+    found = list(zip(twine[1:-1], bars, bars[1:]))
     if twine[0] == twine[-1]:
-        passes.append((twine[0], bars[-1], bars[0]))
-    return passes
+        found.append((twine[0], bars[-1], bars[0]))
+    return found
 
 
 def _is_bad_pass(sheet, tear, knot, one, other):

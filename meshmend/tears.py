@@ -1,15 +1,21 @@
 """Tears: the bars that lack, and the holes that they make."""
 
+from meshmend.groups import by_number, grouped
 from meshmend.sheets import bars_of, ends_of, is_bar, knots
 
 
 def tear_error(sheet, value):
     """Return None for a tear, -1 for no tuple, or the number of the first wrong item."""
+    return bars_error(sheet, (), value)
+
+
+def bars_error(sheet, taken, value):
+    """Return None for an ascending tuple of bars without the taken ones, otherwise as tear_error."""
     if not isinstance(value, tuple):
         return -1
     ahead = -1
     for number, item in enumerate(value):
-        if not is_bar(sheet, item) or item <= ahead:
+        if not is_bar(sheet, item) or item in taken or item <= ahead:
             return number
         ahead = item
     return None
@@ -18,6 +24,12 @@ def tear_error(sheet, value):
 def lacking_at(sheet, tear, knot):
     """Return the ascending tuple of the bars that lack at the knot."""
     return tuple([bar for bar in bars_of(sheet, knot) if bar in tear])
+
+
+def whole_bars(sheet, tear):
+    """Return the ascending tuple of the bars that are whole."""
+    deep, wide = sheet
+    return tuple([bar for bar in range(deep * wide) if bar not in tear])
 
 
 def lacks(sheet, tear, knot):
@@ -37,15 +49,6 @@ def lost(sheet, tear):
 
 def holes(sheet, tear):
     """Return the holes, each the ascending tuple of its bars, by their first bars."""
-    group = {knot: number for number, knot in enumerate(knots(sheet))}
-    for bar in tear:
-        upper, lower = ends_of(sheet, bar)
-        kept, given = group[upper], group[lower]
-        group = {knot: (kept if number == given else number) for knot, number in group.items()}
-    # The tear is ascending, and a dict keeps the order in which its keys came:
-    # so the holes and their bars come in the order that is asked for.
-    found = {}
-    for bar in tear:
-        upper, _ = ends_of(sheet, bar)
-        found.setdefault(group[upper], []).append(bar)
-    return tuple([tuple(hole) for hole in found.values()])
+    group = grouped(knots(sheet), [ends_of(sheet, bar) for bar in tear])
+    numbers = {bar: group[ends_of(sheet, bar)[0]] for bar in tear}
+    return tuple([tuple(hole) for hole in by_number(numbers)])

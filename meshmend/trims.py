@@ -23,11 +23,11 @@ def least_trim(sheet, tear, ends):
     """Return a trim with the fewest bars."""
     amiss = wrong(sheet, tear, ends)
     _need_few(amiss)
-    ways = {knot: _ways_from(sheet, tear, knot) for knot in amiss}
+    ways = {knot: ways_from(sheet, tear, knot) for knot in amiss}
     lots = _odd_lots(ways)
     if lots:
         raise NoTrim(min(lots))
-    return tuple(sorted(_fewest_bars(ways, amiss)))
+    return tuple(sorted(fewest_bars(ways, amiss)))
 
 
 def easiest(sheet, tear):
@@ -35,10 +35,10 @@ def easiest(sheet, tear):
     need_one_hole(sheet, tear)
     amiss = odd(sheet, tear)
     _need_few(amiss)
-    ways = {knot: _ways_from(sheet, tear, knot) for knot in amiss}
+    ways = {knot: ways_from(sheet, tear, knot) for knot in amiss}
     best = None
     for ends in [()] + [(one, other) for one in amiss for other in amiss if one < other]:
-        bars = _fewest_bars(ways, [knot for knot in amiss if knot not in ends])
+        bars = fewest_bars(ways, [knot for knot in amiss if knot not in ends])
         if bars is not None and (best is None or len(bars) < best[0]):
             best = (len(bars), ends)
     return best
@@ -50,7 +50,7 @@ def _need_few(amiss):
         raise TooMany(len(amiss))
 
 
-def _ways_from(sheet, tear, start):
+def ways_from(sheet, tear, start):
     """Return a dict with a shortest way of whole bars to each knot that start is joined with."""
     ways = {start: ()}
     front = [start]
@@ -72,7 +72,7 @@ def _odd_lots(ways):
     return [lot for lot in lots if len([knot for knot in lot if knot in ways]) % 2 == 1]
 
 
-def _fewest_bars(ways, amiss):
+def fewest_bars(ways, amiss):
     """Return the fewest bars that join the knots two by two; None if none do."""
     # Each trim holds ways that join the wrong knots two by two, so none has
     # fewer bars. No two of the ways that are taken have a bar in common:
@@ -82,7 +82,7 @@ def _fewest_bars(ways, amiss):
     first, best = amiss[0], None
     for other in amiss[1:]:
         if other in ways[first]:
-            rest = _fewest_bars(ways, [knot for knot in amiss[1:] if knot != other])
+            rest = fewest_bars(ways, [knot for knot in amiss[1:] if knot != other])
             if rest is not None and (best is None or len(ways[first][other]) + len(rest) < len(best)):
                 best = ways[first][other] + rest
     return best

@@ -172,6 +172,14 @@ def some_squares(sheet, dice):
     return laid_over([part for part in squares(sheet) if dice.random() < 0.5])
 
 
+def laced(sheet, dice, share=0.0):
+    """The squares of every other row, which cross one another, with a share of all put otherwise."""
+    row = dice.randrange(2)
+    return laid_over([
+        part for part in squares(sheet) if (part[0] // sheet[1] % 2 == row) != (dice.random() < share)
+    ])
+
+
 def thinned(bars, dice, share):
     return tuple([bar for bar in bars if dice.random() < share])
 

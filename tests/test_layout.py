@@ -33,6 +33,21 @@ INTERFACE = {
         "least_trim": ["sheet", "tear", "ends"],
         "easiest": ["sheet", "tear"],
     },
+    "trimpapers.py": {
+        "trim_paper": ["sheet", "tear", "ends"],
+    },
+    "trimchecker.py": {
+        "lets_trim": ["sheet", "tear", "ends", "value"],
+    },
+    "rings.py": {
+        "crossings": ["sheet", "tear"],
+        "loops": ["sheet", "tear", "turning"],
+        "rings": ["sheet", "tear"],
+        "ring_at": ["sheet", "tear", "value"],
+        "ring_number": ["sheet", "tear", "value"],
+        "ring_of": ["sheet", "tear", "turning"],
+        "turning_of": ["sheet", "tear", "twine"],
+    },
 }
 
 

@@ -3,11 +3,15 @@
 import time
 import unittest
 
-from meshmend.errors import TooMany
+from meshmend.errors import NoPaper
 from meshmend.plans import fewest, plan, plan_error
+from meshmend.rings import crossings, loops, ring_at, ring_number, ring_of, rings, turning_of
 from meshmend.tears import holes, lost, odd, tear_error
+from meshmend.trimchecker import lets_trim
+from meshmend.trimpapers import trim_paper
 from meshmend.trims import easiest, least_trim, wrong
-from tests.nets import LARGE, all_bars, laid_over, one_holes, squares
+from tests.nets import LARGE, all_bars, knots_as_told, laid_over, one_holes, squares
+from tests.turns import even_holes
 
 # Far more than any call needs, and far less than going through all plans takes.
 SECONDS = 5
@@ -17,11 +21,9 @@ class TimesTest(unittest.TestCase):
     def assert_quick(self, call, *given):
         begun = time.monotonic()
         try:
-            found = call(*given)
-        except TooMany:
-            found = None
-        self.assertLess(time.monotonic() - begun, SECONDS, (call, given))
-        return found
+            return call(*given)
+        finally:
+            self.assertLess(time.monotonic() - begun, SECONDS, (call, given))
 
     def test_all_bars_and_all_squares(self):
         for sheet in LARGE:
@@ -40,12 +42,35 @@ class TimesTest(unittest.TestCase):
         self.assertEqual(self.assert_quick(plan_error, sheet, tear, single), (1, "twice"))
         self.assertEqual(self.assert_quick(tear_error, sheet, tuple(range(4000))), 64)
 
+    def test_long_papers(self):
+        sheet, tear = (8, 8), (27,)
+        lot = tuple(knots_as_told(sheet))
+        with self.assertRaises(NoPaper):
+            self.assert_quick(lets_trim, sheet, tear, (), ("least", (), (lot,) * 90))
+        with self.assertRaises(NoPaper):
+            self.assert_quick(lets_trim, sheet, tear, (), ("never", lot * 30))
+        with self.assertRaises(NoPaper):
+            self.assert_quick(lets_trim, sheet, tear, (), ("least", tuple(range(28, 64)) * 100, ()))
+
     def test_trims(self):
         for sheet, tear in one_holes(120, LARGE):
             self.assert_quick(wrong, sheet, tear, ())
-            self.assert_quick(easiest, sheet, tear)
-            if not odd(sheet, tear):
-                self.assert_quick(least_trim, sheet, tear, ())
+            if len(odd(sheet, tear)) <= 8:
+                self.assert_quick(easiest, sheet, tear)
+                paper = self.assert_quick(trim_paper, sheet, tear, ())
+                self.assertEqual(self.assert_quick(lets_trim, sheet, tear, (), paper), paper[0])
+                if paper[0] == "least":
+                    self.assert_quick(least_trim, sheet, tear, ())
+
+    def test_rings(self):
+        for sheet, tear in even_holes(121, LARGE):
+            self.assert_quick(crossings, sheet, tear)
+            many = self.assert_quick(rings, sheet, tear)
+            turning = self.assert_quick(ring_at, sheet, tear, many - 1)
+            self.assertEqual(self.assert_quick(ring_number, sheet, tear, turning), many - 1)
+            self.assertEqual(self.assert_quick(loops, sheet, tear, turning), 1)
+            twine = self.assert_quick(ring_of, sheet, tear, turning)
+            self.assertEqual(self.assert_quick(turning_of, sheet, tear, twine), turning)
 
 
 if __name__ == "__main__":

@@ -9,113 +9,16 @@ from meshmend.plans import fewest
 from meshmend.tears import tear_error
 from meshmend.trims import easiest, least_trim, wrong
 from tests.nets import (
-    LARGE, SHEETS, ExactTest, all_bars, all_tears, at_as_told, ends_as_told, grown, holes_as_told, knots_as_told,
-    odd_as_told, one_holes, samples, squares, without,
+    LARGE, SHEETS, ExactTest, all_bars, all_tears, ends_as_told, grown, holes_as_told, knots_as_told,
+    odd_as_told, one_holes, samples, squares,
+)
+from tests.papers import (
+    SMALL, TWELVE, all_ends, is_trim, least_of_all_lots, least_sum, odd_lots_as_told, some_ends,
+    steps_between, trims_by_size, wrong_as_told,
 )
 
 N = (4, 4)
 X = (5, 6, 9, 10)
-SMALL = [sheet for sheet in SHEETS if sheet[0] * sheet[1] <= 8]
-TWELVE = [sheet for sheet in SHEETS if 9 <= sheet[0] * sheet[1] <= 12]
-
-
-def all_ends(sheet, tear):
-    """() and all pairs of unlike knots, ascending, at which a bar lacks."""
-    at = [knot for knot in knots_as_told(sheet) if at_as_told(sheet, tear, knot)]
-    return [()] + list(itertools.combinations(at, 2))
-
-
-def some_ends(sheet, tear, dice, many):
-    pairs = all_ends(sheet, tear)[1:]
-    odd_knots = odd_as_told(sheet, tear)
-    found = [()] + dice.sample(pairs, min(many, len(pairs)))
-    return found + list(itertools.combinations(odd_knots, 2))[:many]
-
-
-def wrong_as_told(sheet, tear, ends):
-    odd_knots = odd_as_told(sheet, tear)
-    found = [knot for knot in odd_knots if knot not in ends]
-    found += [knot for knot in ends if knot not in odd_knots]
-    return tuple(sorted(found))
-
-
-def is_trim(sheet, tear, ends, value):
-    """Whether the value is a trim, in the words of the document."""
-    if type(value) is not tuple or [type(bar) for bar in value] != [int] * len(value):
-        return False
-    if list(value) != sorted(set(value)) or not set(value) <= set(all_bars(sheet)) - set(tear):
-        return False
-    return odd_as_told(sheet, tear + value) == tuple(sorted(ends))
-
-
-def lots_as_told(sheet, tear):
-    """All knots that are joined with one another over whole bars, by their first knots."""
-    left, found = knots_as_told(sheet), []
-    whole = [ends_as_told(sheet, bar) for bar in without(all_bars(sheet), tear)]
-    while left:
-        lot = [left[0]]
-        for knot in lot:
-            lot.extend({end for ends in whole if knot in ends for end in ends} - set(lot))
-        left = [knot for knot in left if knot not in lot]
-        found.append(tuple(sorted(lot)))
-    return found
-
-
-def odd_lots_as_told(sheet, tear, amiss):
-    return [lot for lot in lots_as_told(sheet, tear) if len(set(lot) & set(amiss)) % 2]
-
-
-def trims_by_size(sheet):
-    """All lots of bars, as masks, by the mask of the knots that they make odd; the small ones first."""
-    numbers = {knot: number for number, knot in enumerate(knots_as_told(sheet))}
-    masks = [sum(1 << numbers[end] for end in ends_as_told(sheet, bar)) for bar in all_bars(sheet)]
-    table = {}
-    for mask in sorted(range(2 ** len(masks)), key=lambda mask: bin(mask).count("1")):
-        turned = 0
-        for bar, ends in enumerate(masks):
-            if mask >> bar & 1:
-                turned ^= ends
-        table.setdefault(turned, []).append(mask)
-    return numbers, table
-
-
-def least_of_all_lots(tables, tear, amiss):
-    """The least number of whole bars that make just these knots odd; None if none do."""
-    numbers, table = tables
-    lacking = sum(1 << bar for bar in tear)
-    for mask in table.get(sum(1 << numbers[knot] for knot in amiss), []):
-        if not mask & lacking:
-            return bin(mask).count("1")
-    return None
-
-
-def steps_between(sheet, tear):
-    """The lengths of the shortest ways over whole bars between all knots."""
-    all_knots = knots_as_told(sheet)
-    steps = {(one, other): 0 if one == other else 10 ** 6 for one in all_knots for other in all_knots}
-    for bar in without(all_bars(sheet), tear):
-        upper, lower = ends_as_told(sheet, bar)
-        steps[upper, lower] = steps[lower, upper] = 1
-    for mid in all_knots:
-        for one in all_knots:
-            if steps[one, mid] < 10 ** 6:
-                for other in all_knots:
-                    steps[one, other] = min(steps[one, other], steps[one, mid] + steps[mid, other])
-    return steps
-
-
-def least_sum(steps, amiss):
-    """The least sum of steps that join the knots two by two; None if they cannot be joined."""
-    sums = {0: 0}
-    for mask in range(1, 2 ** len(amiss)):
-        if bin(mask).count("1") % 2 == 0:
-            at = [number for number in range(len(amiss)) if mask >> number & 1]
-            sums[mask] = min(
-                steps[amiss[at[0]], amiss[other]] + sums[mask - (1 << at[0]) - (1 << other)]
-                for other in at[1:]
-            )
-    total = sums[2 ** len(amiss) - 1]
-    return total if total < 10 ** 6 else None
 
 
 def easiest_as_told(odd_knots, least):
