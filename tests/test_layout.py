@@ -48,6 +48,45 @@ INTERFACE = {
         "ring_of": ["sheet", "tear", "turning"],
         "turning_of": ["sheet", "tear", "twine"],
     },
+    "exchanges.py": {
+        "done": ["sheet", "tear", "turning", "value"],
+        "exchanges": ["sheet", "tear", "one", "other"],
+    },
+    "edges.py": {
+        "edge_error": ["value"],
+        "fall": ["edge"],
+        "even_edge": ["down", "aside"],
+        "is_even": ["edge"],
+        "round_of": ["edge"],
+        "takings": ["one", "other"],
+    },
+    "texts.py": {
+        "net_text": ["sheet", "tear"],
+        "read_net": ["value"],
+    },
+}
+
+PROPERTIES = ("sheet", "tear", "used")
+
+LOFT = {
+    "__init__": ["self", "sheet"],
+    "__len__": ["self"],
+    "__contains__": ["self", "bar"],
+    "__iter__": ["self"],
+    "__str__": ["self"],
+    "__eq__": ["self", "other"],
+    "holes": ["self"],
+    "odd": ["self"],
+    "fewest": ["self"],
+    "rip": ["self", "bar"],
+    "trim": ["self", "bars"],
+    "mend": ["self", "twine"],
+    "mend_all": ["self", "plan"],
+    "undo": ["self"],
+    "redo": ["self"],
+    "listen": ["self", "function"],
+    "unlisten": ["self", "number"],
+    "twin": ["self"],
 }
 
 
@@ -70,6 +109,16 @@ class LayoutTest(unittest.TestCase):
             }
             for function, arguments in functions.items():
                 self.assertEqual(found.get(function), arguments, function)
+
+    def test_the_class_loft_defines_its_methods_itself(self):
+        tree = ast.parse((PACKAGE / "lofts.py").read_text())
+        loft = [node for node in tree.body if isinstance(node, ast.ClassDef) and node.name == "Loft"][0]
+        methods = {node.name: node for node in loft.body if isinstance(node, ast.FunctionDef)}
+        for name in PROPERTIES:
+            self.assertEqual([item.id for item in methods[name].decorator_list], ["property"], name)
+        for name, arguments in LOFT.items():
+            self.assertEqual([item.arg for item in methods[name].args.args], arguments, name)
+        self.assertEqual([item.arg for item in methods["__init__"].args.kwonlyargs], ["tear"])
 
     def test_sizes_and_characters(self):
         for path in files():

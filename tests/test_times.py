@@ -3,7 +3,10 @@
 import time
 import unittest
 
-from meshmend.errors import NoPaper
+from meshmend.edges import edge_error, even_edge, fall, is_even, round_of, takings
+from meshmend.errors import BadExchange, NoPaper
+from meshmend.exchanges import done, exchanges
+from meshmend.lofts import Loft
 from meshmend.plans import fewest, plan, plan_error
 from meshmend.rings import crossings, loops, ring_at, ring_number, ring_of, rings, turning_of
 from meshmend.tears import holes, lost, odd, tear_error
@@ -61,6 +64,34 @@ class TimesTest(unittest.TestCase):
                 self.assertEqual(self.assert_quick(lets_trim, sheet, tear, (), paper), paper[0])
                 if paper[0] == "least":
                     self.assert_quick(least_trim, sheet, tear, ())
+
+    def test_exchanges(self):
+        for sheet, tear in even_holes(122, LARGE):
+            one, other = ring_at(sheet, tear, 0), ring_at(sheet, tear, rings(sheet, tear) - 1)
+            there = self.assert_quick(exchanges, sheet, tear, one, other)
+            if there:
+                many = (there + there[::-1]) * (650 // len(there))
+                self.assertEqual(self.assert_quick(done, sheet, tear, one, many), one)
+                with self.assertRaises(BadExchange):
+                    self.assert_quick(done, sheet, tear, one, many + (None,))
+
+    def test_edges(self):
+        edge = self.assert_quick(even_edge, 200, 198)
+        for value in (edge, "B" * 200, "NB" * 100, "TBB" * 66):
+            for call in (edge_error, fall, is_even, round_of):
+                self.assert_quick(call, value)
+        self.assert_quick(edge_error, "N" * 3000)
+        self.assert_quick(takings, 1000, 999)
+
+    def test_lofts(self):
+        sheet = (8, 8)
+        x = Loft(sheet, tear=all_bars(sheet))
+        x.listen(lambda loft: (loft.holes(), loft.odd(), str(loft)))
+        self.assert_quick(x.mend_all, plan(sheet, x.tear))
+        for bar in range(29):
+            self.assert_quick(x.rip, bar)
+        for _ in range(30):
+            self.assert_quick(x.undo)
 
     def test_rings(self):
         for sheet, tear in even_holes(121, LARGE):
