@@ -28,13 +28,13 @@ def ways_to_join(items, pairs):
     # The matrix-tree theorem: a row and a column for each item but one, how
     # many pairs an item has on the diagonal, and less one for each pair beside
     # it. A pair of an item with itself cancels out.
-    rows = {item: {other: 0 for other in items} for item in items}
+    table = {row: {col: 0 for col in items} for row in items}
     for one, other in pairs:
-        rows[one][one] += 1
-        rows[other][other] += 1
-        rows[one][other] -= 1
-        rows[other][one] -= 1
-    return _determinant([[rows[item][other] for other in items[1:]] for item in items[1:]])
+        table[one][one] += 1
+        table[other][other] += 1
+        table[one][other] -= 1
+        table[other][one] -= 1
+    return _determinant([[table[row][col] for col in items[1:]] for row in items[1:]])
 
 
 def _determinant(rows):

@@ -4,6 +4,7 @@ The functions with "as_told" follow the words of the document on their own ways
 and use nothing of the package.
 """
 
+import functools
 import random
 import unittest
 
@@ -48,6 +49,7 @@ def knots_as_told(sheet):
     ]
 
 
+@functools.lru_cache(maxsize=4096)
 def ends_as_told(sheet, bar):
     """The upper and the lower knot, in the words of the document."""
     r, c = bar // sheet[1], bar % sheet[1]
@@ -60,12 +62,14 @@ def at_as_told(sheet, bars, knot):
     return [bar for bar in bars if knot in ends_as_told(sheet, bar)]
 
 
+@functools.lru_cache(maxsize=4096)
 def odd_as_told(sheet, tear):
     return tuple([
         knot for knot in knots_as_told(sheet) if len(at_as_told(sheet, tear, knot)) % 2
     ])
 
 
+@functools.lru_cache(maxsize=4096)
 def holes_as_told(sheet, tear):
     """Spread from bar to bar over common knots."""
     left, found = sorted(tear), []
