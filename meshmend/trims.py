@@ -56,7 +56,7 @@ def ways_from(sheet, tear, start):
     front = [start]
     while front:
         further = []
-        for knot in front:
+        for knot in list(front):
             for bar in bars_of(sheet, knot):
                 far = far_end(sheet, bar, knot)
                 if bar not in tear and far not in ways:
